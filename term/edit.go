@@ -75,9 +75,9 @@ func Substitute(t api.Term, s []api.Assign) api.Term {
 
 // Replace returns t with each subterm that equals old replaced by new.
 func Replace(t, old, new api.Term) api.Term {
-	e, p := &editor{}, patternFor(&old)
+	e := &editor{}
 	e.edit = func(t *api.Term) (api.Term, bool) {
-		if p.equals(t) {
+		if areEqual(&old, t) {
 			return new, true
 		}
 		return e.parts(t)

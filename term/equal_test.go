@@ -117,6 +117,37 @@ func TestEqualOfEndlessTerms(t *testing.T) {
 	expectEqual(t, call("d", double(59, tm("x")), double(59, tm("x"))), call("d", double(59, tm("x")), double(59, tm("y"))), false)
 }
 
+// TestEqualOfDifferentPeriods: terms that contain themselves after so many levels that all pairs of these levels would be too many.
+func TestEqualOfDifferentPeriods(t *testing.T) {
+	for _, n := range []int{10, 3001, 60001} {
+		x, y := endless(n), endless(n-1)
+		expectEqual(t, x, y, true)
+		expectEqual(t, double(50, x), double(50, y), true)
+		expectEqual(t, call("f", x, tm("x")), call("f", y, tm("y")), false)
+		expectOccurs(t, call("g", x), call("f", tm("(g x)"), call("g", y)), true)
+		expectOccurs(t, call("g", x), call("f", tm("(g x)"), call("h", y)), false)
+		z := endless(n)
+		z.Args[1].Args[1].Args[0] = tm("'2")
+		expectEqual(t, x, z, false)
+	}
+}
+
+// TestEqualOfEndlessStrangers: arguments count also where they do not belong.
+func TestEqualOfEndlessStrangers(t *testing.T) {
+	for _, kind := range []int{0, api.Variable, api.Constant, 9} {
+		stranger := func(s string) api.Term {
+			x := api.Term{Kind: kind, Args: tms("x", s)}
+			x.Args[0] = x
+			return x
+		}
+		expectEqual(t, stranger("y"), stranger("y"), true)
+		expectEqual(t, stranger("y"), stranger("z"), false)
+		expectOccurs(t, stranger("y"), call("f", stranger("z"), stranger("y")), true)
+		expectOccurs(t, stranger("y"), call("f", stranger("z")), false)
+		expectTerm(t, "Replace", Replace(call("f", stranger("y")), stranger("y"), tm("x")), tm("(f x)"))
+	}
+}
+
 // TestEqualOfOverlappingLists: lists of arguments that begin at the same place, but have different lengths.
 func TestEqualOfOverlappingLists(t *testing.T) {
 	l, m := tms("x", "y", "z"), tms("x", "y", "a::z")

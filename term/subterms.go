@@ -68,9 +68,8 @@ func names(kind int, l []api.Term) []api.Symbol {
 
 // Occurs reports whether a is a subterm of b.
 func Occurs(a, b api.Term) bool {
-	p := patternFor(&a)
 	for s := range subterms(b) {
-		if p.equals(s) {
+		if areEqual(&a, s) {
 			return true
 		}
 	}
